@@ -1,0 +1,31 @@
+"""Tests of any value: whether it is a NAME, an INTEGER, TIMES ([2], [11])."""
+
+MOST_LETTERS = 8
+
+
+def is_name(value):
+    """Whether the value is one to eight letters from a to z."""
+    if not isinstance(value, str) or not 1 <= len(value) <= MOST_LETTERS:
+        return False
+    return all(["a" <= letter <= "z" for letter in value])
+
+
+def is_integer(value):
+    """Whether the value is an int and no bool."""
+    return isinstance(value, int) and not isinstance(value, bool)
+
+
+def is_moment_of(value, moments):
+    """Whether the value is one of the moments, which are a tuple of names or a dict from names."""
+    # A value that is no string may have no hash, and could not be looked up in a dict.
+    return isinstance(value, str) and value in moments
+
+
+def has_names(value):
+    """Whether the value is a dict with one or more keys, all of them NAMES."""
+    return isinstance(value, dict) and len(value) > 0 and all([is_name(key) for key in value])
+
+
+def is_times(value):
+    """Whether the value is a dict from one or more NAMES to INTEGERS."""
+    return has_names(value) and all([is_integer(time) for time in value.values()])

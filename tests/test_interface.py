@@ -1,0 +1,68 @@
+"""The interface: each class with its own methods, each function, and their parameters, in the file that lists them."""
+
+import importlib
+import inspect
+import unittest
+
+CLASSES = {
+    ("terms", "Term"): [
+        "__init__", "moment", "shift", "__call__", "__add__", "__radd__", "__sub__", "__or__", "__eq__", "__str__",
+        "__repr__",
+    ],
+    ("earliest", "Earliest"): [
+        "__init__", "of", "moments", "shifts", "__getitem__", "__contains__", "__len__", "__call__", "first", "__add__",
+        "__radd__", "__sub__", "__or__", "is_never_later", "without", "put_in", "__eq__", "__str__", "__repr__",
+    ],
+}
+PARAMETERS = {
+    ("terms", "Term"): "moment, shift=0",
+    ("terms", "Term.__call__"): "self, times",
+    ("earliest", "Earliest"): "shifts",
+    ("earliest", "Earliest.of"): "**shifts",
+    ("earliest", "Earliest.shifts"): "self",
+    ("earliest", "Earliest.__call__"): "self, times",
+    ("earliest", "Earliest.first"): "self, times",
+    ("earliest", "Earliest.is_never_later"): "self, other",
+    ("earliest", "Earliest.without"): "self, moment",
+    ("earliest", "Earliest.put_in"): "self, moment, earliest",
+}
+PROPERTIES = {
+    ("terms", "Term"): ["moment", "shift"],
+    ("earliest", "Earliest"): ["moments"],
+}
+
+
+def found(file, path):
+    """What stands under the dotted path in the file of the package."""
+    value = importlib.import_module("anyofthese." + file)
+    for name in path.split("."):
+        value = getattr(value, name)
+    return value
+
+
+class InterfaceTest(unittest.TestCase):
+    def test_each_class_has_its_methods_itself(self):
+        for (file, name), members in CLASSES.items():
+            made = found(file, name)
+            self.assertEqual(made.__module__, "anyofthese." + file)
+            for member in members:
+                with self.subTest(name + "." + member):
+                    self.assertIn(member, vars(made))
+
+    def test_functions_are_defined_in_their_files(self):
+        for file, path in PARAMETERS:
+            self.assertEqual(found(file, path).__module__, "anyofthese." + file)
+
+    def test_parameters(self):
+        for (file, path), parameters in PARAMETERS.items():
+            with self.subTest(path):
+                self.assertEqual(str(inspect.signature(found(file, path))), "(" + parameters + ")")
+
+    def test_properties(self):
+        for (file, name), members in PROPERTIES.items():
+            for member in members:
+                self.assertIsInstance(vars(found(file, name))[member], property)
+
+    def test_static_methods(self):
+        for file, name in (("earliest", "Earliest"),):
+            self.assertIsInstance(vars(found(file, name))["of"], staticmethod)
