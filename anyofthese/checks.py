@@ -1,7 +1,7 @@
 """Checks that several classes share: each raises the error that the document lists, or does nothing."""
 
-from anyofthese.errors import InvalidShift, InvalidTimes, UnknownMoment
-from anyofthese.kinds import is_integer, is_moment_of, is_times
+from anyofthese.errors import InvalidPosition, InvalidShift, InvalidTimes, UnknownMoment
+from anyofthese.kinds import is_integer, is_moment_of, is_position, is_times
 
 
 def check_shift(value):
@@ -20,3 +20,16 @@ def check_moment(value, moments):
     """UnknownMoment unless the value is one of the moments."""
     if not is_moment_of(value, moments):
         raise UnknownMoment(value)
+
+
+def check_position(value, many):
+    """InvalidPosition unless the value is a position among so many things."""
+    if not is_position(value, many):
+        raise InvalidPosition(value)
+
+
+def check_rule(rule, moments):
+    """UnknownMoment with the first moment of the rule that is not one of these: its left, then its alternatives."""
+    alternatives = rule.earliest.moments
+    for moment in [rule.moment, *alternatives]:
+        check_moment(moment, moments)

@@ -1,4 +1,4 @@
-"""Tests of any value: whether it is a NAME, an INTEGER, TIMES ([2], [11])."""
+"""Tests of any value: whether it is a NAME, an INTEGER, a list, a position, TIMES ([2], [11])."""
 
 MOST_LETTERS = 8
 
@@ -13,6 +13,16 @@ def is_name(value):
 def is_integer(value):
     """Whether the value is an int and no bool."""
     return isinstance(value, int) and not isinstance(value, bool)
+
+
+def is_list(value):
+    """Whether the value can be passed where the document says list."""
+    return isinstance(value, (list, tuple))
+
+
+def is_position(value, many):
+    """Whether the value is a position among so many things."""
+    return is_integer(value) and 0 <= value < many
 
 
 def is_moment_of(value, moments):

@@ -1,4 +1,4 @@
-"""Dicts from moments to integers, as an Earliest has its shifts; none is changed here."""
+"""Dicts from moments to integers, as an Earliest has its shifts and a Run its times; none is changed here."""
 
 
 def in_order(table):

@@ -2,7 +2,10 @@
 
 import unittest
 
+from anyofthese.books import Book
 from anyofthese.earliest import Earliest
+from anyofthese.rules import Rule
+from anyofthese.runs import Run
 from anyofthese.terms import Term
 
 BIG = 10 ** 59 + 123456789
@@ -13,6 +16,7 @@ EIGHT = ["a", "b", "c", "d", "e", "f", "g", "h"]
 
 ODD_VALUES = [
     None, True, False, b"a", [], ["a"], (), ("a",), {}, {"a": 1}, object(), int, len, Term("a"), Earliest.of(a=0),
+    Rule("a", Term("a")), Book(["a"]), Run.of(a=0),
 ]
 NO_NAMES = ODD_VALUES + [
     "", "abcdefghi", "Ann", "aNn", "anN", "a1", "1a", "a b", " a", "a ", "a_b", "a-b", "a\n", "`", "{", "@",

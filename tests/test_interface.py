@@ -13,6 +13,21 @@ CLASSES = {
         "__init__", "of", "moments", "shifts", "__getitem__", "__contains__", "__len__", "__call__", "first", "__add__",
         "__radd__", "__sub__", "__or__", "is_never_later", "without", "put_in", "__eq__", "__str__", "__repr__",
     ],
+    ("rules", "Rule"): [
+        "__init__", "moment", "earliest", "moments", "is_always", "is_never", "kept_by", "slack", "contrary", "__add__",
+        "__radd__", "__sub__", "__eq__", "__str__", "__repr__",
+    ],
+    ("books", "Book"): [
+        "__init__", "MOST_MOMENTS", "MOST_RULES", "moments", "rules", "__getitem__", "__len__", "__contains__",
+        "rules_of", "__and__", "with_rules", "without", "renamed", "__eq__", "__repr__",
+    ],
+    ("drafts", "Draft"): [
+        "__init__", "__getitem__", "__setitem__", "__iadd__", "drop", "put", "add", "book", "take", "__len__",
+    ],
+    ("runs", "Run"): [
+        "__init__", "of", "moments", "times", "__getitem__", "__contains__", "__len__", "__and__", "__or__",
+        "is_at_most", "__add__", "__radd__", "__sub__", "with_time", "only", "gap", "__eq__", "__repr__",
+    ],
 }
 PARAMETERS = {
     ("terms", "Term"): "moment, shift=0",
@@ -25,10 +40,38 @@ PARAMETERS = {
     ("earliest", "Earliest.is_never_later"): "self, other",
     ("earliest", "Earliest.without"): "self, moment",
     ("earliest", "Earliest.put_in"): "self, moment, earliest",
+    ("rules", "Rule"): "moment, earliest",
+    ("rules", "Rule.kept_by"): "self, times",
+    ("rules", "Rule.slack"): "self, times",
+    ("rules", "Rule.contrary"): "self",
+    ("books", "Book"): "moments, rules=()",
+    ("books", "Book.rules"): "self",
+    ("books", "Book.rules_of"): "self, moment",
+    ("books", "Book.with_rules"): "self, *rules",
+    ("books", "Book.without"): "self, *positions",
+    ("books", "Book.renamed"): "self, names",
+    ("books", "first_broken"): "book, times",
+    ("books", "is_run"): "book, value",
+    ("drafts", "Draft"): "book",
+    ("drafts", "Draft.drop"): "self, position",
+    ("drafts", "Draft.put"): "self, position, rule",
+    ("drafts", "Draft.add"): "self, rule",
+    ("drafts", "Draft.take"): "self, other",
+    ("runs", "Run"): "times",
+    ("runs", "Run.of"): "**times",
+    ("runs", "Run.times"): "self",
+    ("runs", "Run.is_at_most"): "self, other",
+    ("runs", "Run.with_time"): "self, moment, time",
+    ("runs", "Run.only"): "self, moments",
+    ("runs", "Run.gap"): "self, a, b",
 }
 PROPERTIES = {
     ("terms", "Term"): ["moment", "shift"],
     ("earliest", "Earliest"): ["moments"],
+    ("rules", "Rule"): ["moment", "earliest", "moments", "is_always", "is_never"],
+    ("books", "Book"): ["moments"],
+    ("drafts", "Draft"): ["book"],
+    ("runs", "Run"): ["moments"],
 }
 
 
@@ -64,5 +107,5 @@ class InterfaceTest(unittest.TestCase):
                 self.assertIsInstance(vars(found(file, name))[member], property)
 
     def test_static_methods(self):
-        for file, name in (("earliest", "Earliest"),):
+        for file, name in (("earliest", "Earliest"), ("runs", "Run")):
             self.assertIsInstance(vars(found(file, name))["of"], staticmethod)
