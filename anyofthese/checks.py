@@ -1,13 +1,19 @@
 """Checks that several classes share: each raises the error that the document lists, or does nothing."""
 
-from anyofthese.errors import InvalidPosition, InvalidShift, InvalidTimes, UnknownMoment
-from anyofthese.kinds import is_integer, is_moment_of, is_position, is_times
+from anyofthese.errors import InvalidCount, InvalidPosition, InvalidShift, InvalidTimes, OtherMoments, UnknownMoment
+from anyofthese.kinds import is_count, is_integer, is_moment_of, is_position, is_times
 
 
 def check_shift(value):
     """InvalidShift unless the value is an INTEGER."""
     if not is_integer(value):
         raise InvalidShift(value)
+
+
+def check_count(value):
+    """InvalidCount unless the value is a COUNT."""
+    if not is_count(value):
+        raise InvalidCount(value)
 
 
 def check_times(value, moments):
@@ -33,3 +39,9 @@ def check_rule(rule, moments):
     alternatives = rule.earliest.moments
     for moment in [rule.moment, *alternatives]:
         check_moment(moment, moments)
+
+
+def check_same_moments(one, other):
+    """OtherMoments with both unless these are the same sorted tuples of moments."""
+    if one != other:
+        raise OtherMoments(one, other)

@@ -1,8 +1,7 @@
 """Drafts: books that can be changed ([25])."""
 
 from anyofthese.books import Book
-from anyofthese.checks import check_position, check_rule
-from anyofthese.errors import OtherMoments
+from anyofthese.checks import check_position, check_rule, check_same_moments
 
 
 class Draft:
@@ -47,8 +46,7 @@ class Draft:
 
     @book.setter
     def book(self, value):
-        if value.moments != self._book.moments:
-            raise OtherMoments(self._book.moments, value.moments)
+        check_same_moments(self._book.moments, value.moments)
         self._book = value
 
     def take(self, other):

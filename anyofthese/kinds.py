@@ -1,4 +1,4 @@
-"""Tests of any value: whether it is a NAME, an INTEGER, a list, a position, TIMES ([2], [11])."""
+"""Tests of any value: whether it is a NAME, an INTEGER, a COUNT, a list, a position, TIMES ([2], [11])."""
 
 MOST_LETTERS = 8
 
@@ -13,6 +13,11 @@ def is_name(value):
 def is_integer(value):
     """Whether the value is an int and no bool."""
     return isinstance(value, int) and not isinstance(value, bool)
+
+
+def is_count(value):
+    """Whether the value is an INTEGER that is at least 0."""
+    return is_integer(value) and value >= 0
 
 
 def is_list(value):

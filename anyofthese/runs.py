@@ -1,8 +1,8 @@
 """Runs: times of at most eight moments ([31])."""
 
 from anyofthese.books import Book
-from anyofthese.checks import check_moment, check_shift
-from anyofthese.errors import InvalidMoments, InvalidTimes, OtherMoments, TooMany
+from anyofthese.checks import check_moment, check_same_moments, check_shift
+from anyofthese.errors import InvalidMoments, InvalidTimes, TooMany
 from anyofthese.kinds import is_list, is_moment_of, is_times
 from anyofthese.tables import in_order, moved
 
@@ -44,27 +44,23 @@ class Run:
     def __iter__(self):
         raise TypeError("a Run is not iterated over")
 
-    def _check_same_moments(self, other):
-        if self.moments != other.moments:
-            raise OtherMoments(self.moments, other.moments)
-
     def __and__(self, other):
         """The earlier one of both [31]."""
         if not isinstance(other, Run):
             return NotImplemented
-        self._check_same_moments(other)
+        check_same_moments(self.moments, other.moments)
         return Run({moment: min(self._times[moment], other._times[moment]) for moment in self._times})
 
     def __or__(self, other):
         """The later one of both [31]."""
         if not isinstance(other, Run):
             return NotImplemented
-        self._check_same_moments(other)
+        check_same_moments(self.moments, other.moments)
         return Run({moment: max(self._times[moment], other._times[moment]) for moment in self._times})
 
     def is_at_most(self, other):
         """Whether each of the times is at most that of the other Run."""
-        self._check_same_moments(other)
+        check_same_moments(self.moments, other.moments)
         return all([self._times[moment] <= other[moment] for moment in self._times])
 
     def __add__(self, other):

@@ -28,15 +28,37 @@ STAGE_2 = """
 [True, False]
 """
 
-# Of the example of stage 3 what it shows of Run; whether a run keeps the book is asked by is_run here.
-RUNS = STAGE_2 + """
->>> from anyofthese.books import is_run
+STAGE_3 = STAGE_2 + """
+>>> from anyofthese.kept import keeps, slacks, ways
 >>> from anyofthese.runs import Run
 >>> run = Run.of(shop=7, ann=7, bob=20, bus=2)
->>> [is_run(book, run.times()), [rule.slack(run.times()) for rule in book.rules()], run.gap("ann", "bus")]
-[True, [0, 0, 9], 5]
->>> [is_run(book, (run & (run + 3).with_time("ann", 8)).times()), Run.of(a=1, b=5) | Run.of(a=3, b=0)]
+>>> [keeps(book, run), slacks(book, run), ways(book, run), run.gap("ann", "bus")]
+[True, [0, 0, 9], [['ann'], ['bus'], ['bus']], 5]
+>>> [keeps(book, run & (run + 3).with_time("ann", 8)), Run.of(a=1, b=5) | Run.of(a=3, b=0)]
 [True, Run({'a': 3, 'b': 5})]
+"""
+
+STAGE_4 = STAGE_3 + """
+>>> from anyofthese.least import least_run, spread
+>>> from anyofthese.whys import is_why, why
+>>> floors = Run.of(shop=0, ann=0, bob=20, bus=2)
+>>> [least_run(book, floors), spread(book, floors, "bus", 20)]
+[Run({'ann': 7, 'bob': 20, 'bus': 2, 'shop': 7}), {'ann': 20, 'bob': 11, 'bus': 20, 'shop': 20}]
+>>> is_why(book, floors, run, [("bus", None), ("bob", None), ("ann", 1), ("shop", 0)])
+True
+>>> ring = Book(["a", "b", "c"], [Rule("a", Term("b") + 1 | Term("c")), Rule("b", Term("a") + 1 | Term("c"))])
+>>> least_run(ring, Run.of(a=0, b=0, c=10 ** 50)) == Run.of(a=10 ** 50, b=10 ** 50, c=10 ** 50)
+True
+"""
+
+# Of the example of stage 5 what it shows of refusals, without cores.
+REFUSALS = STAGE_4 + """
+>>> from anyofthese.refusals import has_run, is_refusal
+>>> stuck = Book(["a", "b"], [Rule("a", Term("b") + 3), Rule("b", Term("a") - 2), Rule("b", Term("a") - 4)])
+>>> [has_run(book), has_run(stuck)]
+[True, False]
+>>> [is_refusal(stuck, {"a": (0, 5), "b": (1, 0)}), is_refusal(stuck, {"a": (0, 0), "b": (1, 0)})]
+[True, False]
 """
 
 
@@ -58,5 +80,11 @@ class ExampleTest(unittest.TestCase):
     def test_stage_2(self):
         self.rows(STAGE_2)
 
-    def test_runs_of_stage_3(self):
-        self.rows(RUNS)
+    def test_stage_3(self):
+        self.rows(STAGE_3)
+
+    def test_stage_4(self):
+        self.rows(STAGE_4)
+
+    def test_refusals_of_stage_5(self):
+        self.rows(REFUSALS)

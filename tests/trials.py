@@ -1,0 +1,106 @@
+"""Books by chance, and what the document says of them, tried out slowly and without the package's own functions."""
+
+import itertools
+import random
+
+from anyofthese.books import Book
+from anyofthese.earliest import Earliest
+from anyofthese.rules import Rule
+from anyofthese.runs import Run
+
+
+def chance(seed):
+    return random.Random(seed)
+
+
+def some_rule(luck, moments, most, size):
+    """A rule with up to most alternatives and shifts of up to this size."""
+    alternatives = luck.sample(sorted(moments), luck.randint(1, min(most, len(moments))))
+    return Rule(luck.choice(sorted(moments)), Earliest({a: luck.randint(-size, size) for a in alternatives}))
+
+
+def some_book(luck, moments, rules, most=3, size=3):
+    return Book(list(moments), [some_rule(luck, moments, most, size) for _ in range(rules)])
+
+
+def some_run(luck, moments, size):
+    return Run({moment: luck.randint(-size, size) for moment in moments})
+
+
+def zeros(moments):
+    return Run({moment: 0 for moment in moments})
+
+
+def value(rule, times):
+    return min(times[moment] + shift for moment, shift in rule.earliest.shifts().items())
+
+
+def is_kept(rule, times):
+    return times[rule.moment] >= value(rule, times)
+
+
+def are_kept(book, times):
+    return all(is_kept(rule, times) for rule in book.rules())
+
+
+def box(moments, low, high):
+    """All times from low to high, sorted by the lists of their times by sorted moments."""
+    for row in itertools.product(range(low, high + 1), repeat=len(moments)):
+        yield dict(zip(sorted(moments), row))
+
+
+def lifted_once(book, times):
+    return {
+        moment: max([times[moment]] + [value(rule, times) for rule in book.rules() if rule.moment == moment])
+        for moment in times
+    }
+
+
+def lifted_often(book, floors):
+    """The least times by lifting the floors again and again; None if this comes to no end.
+
+    In a why no time is later than a floor and the shifts of fewer rules than there are moments."""
+    times = floors.times()
+    sizes = [abs(shift) for rule in book.rules() for shift in rule.earliest.shifts().values()]
+    end = max(times.values()) + len(times) * max(sizes, default=0)
+    while max(times.values()) <= end:
+        further = lifted_once(book, times)
+        if further == times:
+            return times
+        times = further
+    return None
+
+
+def told_why(book, floors, times, why):
+    """Whether the list is a why, line by line."""
+    if sorted(moment for moment, _ in why) != sorted(times):
+        return False
+    for line, (moment, position) in enumerate(why):
+        ahead = [other for other, _ in why[:line]]
+        if position is None:
+            if times[moment] != floors[moment]:
+                return False
+        else:
+            rule = book.rules()[position]
+            if rule.moment != moment:
+                return False
+            for other, shift in rule.earliest.shifts().items():
+                if times[other] + shift < times[moment]:
+                    return False
+                if times[other] + shift == times[moment] and other not in ahead:
+                    return False
+    return True
+
+
+def told_refusal(moments, rules, refusal):
+    """Whether the dict is a refusal of a book with these moments and rules, line by line, with sorted keys."""
+    if not refusal or list(refusal) != sorted(refusal):
+        return False
+    many = len(refusal)
+    for moment, (position, number) in refusal.items():
+        if moment not in moments or rules[position].moment != moment:
+            return False
+        for other, shift in rules[position].earliest.shifts().items():
+            if other not in refusal or many * shift + refusal[other][1] < number + 1:
+                return False
+    return True
