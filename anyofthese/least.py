@@ -6,11 +6,16 @@ from anyofthese.rising import rows_of, settled
 from anyofthese.runs import Run
 
 
+def least_of_rules(rules, floors):
+    """The least run of a book with these rules, however many; None if it has no run."""
+    times, _ = settled(rows_of(rules), floors.times())
+    return Run(times) if len(times) == len(floors) else None
+
+
 def least_run(book, floors):
     """The least run that is not ahead of the floors; None if the book has no run."""
     check_same_moments(book.moments, floors.moments)
-    times, _ = settled(rows_of(book.rules()), floors.times())
-    return Run(times) if len(times) == len(floors) else None
+    return least_of_rules(book.rules(), floors)
 
 
 def lifted(book, run):

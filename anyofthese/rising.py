@@ -71,6 +71,18 @@ def settled(rows, floors):
     return times, holds
 
 
+def settled_in_part(rows, floors, moments):
+    """The least times if only some of the moments have floors, and the sorted list of the loose ones.
+
+    These are the ones that nothing holds. Their floors are set so low that they cannot reach up to the others: behind
+    the shifts of as many rows as there are moments a time is still below the middle between both."""
+    sizes = [abs(shift) for row in rows for shift in row[1].values()]
+    far = len(moments) * max([0, *sizes]) + 1
+    least = min(list(floors.values()))
+    times, _ = settled(rows, {moment: floors.get(moment, least - 2 * far) for moment in moments})
+    return times, [moment for moment in sorted(times) if times[moment] < least - far]
+
+
 def holds_in_sequence(rows, times, holds):
     """The list of (moment, hold), each behind the moments whose terms in its hold have just its time [42]."""
     placed = {moment: True for moment in holds if holds[moment] is None}

@@ -14,6 +14,12 @@ LOW = -(10 ** 59) - 987654321
 NAMES = ["a", "z", "abcdefgh", "zzzzzzzz", "ann", "class", "self", "cls"]
 EIGHT = ["a", "b", "c", "d", "e", "f", "g", "h"]
 
+# The book of the document's examples.
+SHOP = Book(
+    ["shop", "ann", "bob", "bus"],
+    [Rule("shop", Term("ann") | Term("bob")), Rule("ann", Term("bus") + 5), Rule("bob", Term("bus") + 9)],
+)
+
 ODD_VALUES = [
     None, True, False, b"a", [], ["a"], (), ("a",), {}, {"a": 1}, object(), int, len, Term("a"), Earliest.of(a=0),
     Rule("a", Term("a")), Book(["a"]), Run.of(a=0),

@@ -51,14 +51,29 @@ True
 True
 """
 
-# Of the example of stage 5 what it shows of refusals, without cores.
-REFUSALS = STAGE_4 + """
+STAGE_5 = STAGE_4 + """
+>>> from anyofthese.cores import all_cores, core
 >>> from anyofthese.refusals import has_run, is_refusal
 >>> stuck = Book(["a", "b"], [Rule("a", Term("b") + 3), Rule("b", Term("a") - 2), Rule("b", Term("a") - 4)])
->>> [has_run(book), has_run(stuck)]
-[True, False]
+>>> [has_run(book), has_run(stuck), all_cores(stuck)]
+[True, False, [(0, 1)]]
 >>> [is_refusal(stuck, {"a": (0, 5), "b": (1, 0)}), is_refusal(stuck, {"a": (0, 0), "b": (1, 0)})]
 [True, False]
+"""
+
+STAGE_6 = STAGE_5 + """
+>>> from anyofthese.alike import lean, needless, ways_of
+>>> from anyofthese.follows import follows, strength
+>>> from anyofthese.spans import is_loose_end, span
+>>> [follows(book, Rule("shop", Term("bus") + 5)), strength(book, Rule("shop", Term("bus"))), strength(book, Rule("bus", Term("shop")))]
+[True, 5, None]
+>>> [span(book, "shop", "bus"), span(book, "ann", "bob"), ways_of(book, 0)]
+[(5, None), (None, None), {'ann': 'possible', 'bob': 'possible'}]
+>>> [is_loose_end(book, "bus", "shop", (run, ("bus",))), needless(stuck), span(book, "ann", "ann")]
+[True, [2], (0, 0)]
+>>> more = book.with_rules(Rule("ann", Term("bob")), Rule("shop", Term("bus") + 3))
+>>> [str(rule) for rule in lean(more).rules()]
+['rule shop bob', 'rule bob bus+9', 'rule ann bob']
 """
 
 
@@ -86,5 +101,8 @@ class ExampleTest(unittest.TestCase):
     def test_stage_4(self):
         self.rows(STAGE_4)
 
-    def test_refusals_of_stage_5(self):
-        self.rows(REFUSALS)
+    def test_stage_5(self):
+        self.rows(STAGE_5)
+
+    def test_stage_6(self):
+        self.rows(STAGE_6)

@@ -9,13 +9,8 @@ from anyofthese.kept import keeps, keeps_choice, plain, runs_within, slacks, way
 from anyofthese.rules import Rule
 from anyofthese.runs import Run
 from anyofthese.terms import Term
-from tests.samples import BIG, LOW, NO_INTEGERS, ODD_VALUES, Case
+from tests.samples import BIG, LOW, NO_INTEGERS, ODD_VALUES, SHOP, Case
 from tests.trials import are_kept, box, chance, is_kept, some_book, some_run, value, zeros
-
-SHOP = Book(
-    ["shop", "ann", "bob", "bus"],
-    [Rule("shop", Term("ann") | Term("bob")), Rule("ann", Term("bus") + 5), Rule("bob", Term("bus") + 9)],
-)
 
 
 class KeptTest(Case):

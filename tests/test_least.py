@@ -9,13 +9,9 @@ from anyofthese.least import at_floors, least_run, lifted, spread
 from anyofthese.rules import Rule
 from anyofthese.runs import Run
 from anyofthese.terms import Term
-from tests.samples import BIG, LOW, NO_INTEGERS, NO_NAMES, Case
+from tests.samples import BIG, LOW, NO_INTEGERS, NO_NAMES, SHOP, Case
 from tests.trials import chance, lifted_often, lifted_once, some_book, some_rule, some_run, zeros
 
-SHOP = Book(
-    ["shop", "ann", "bob", "bus"],
-    [Rule("shop", Term("ann") | Term("bob")), Rule("ann", Term("bus") + 5), Rule("bob", Term("bus") + 9)],
-)
 STUCK = Book(["a", "b"], [Rule("a", Term("b") + 3), Rule("b", Term("a") - 2)])
 
 

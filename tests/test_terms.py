@@ -1,7 +1,6 @@
 """Terms ([11], [12]): what they are made of, their values, sums, texts, and Earliests made of them."""
 
 import itertools
-import unittest
 
 from anyofthese.earliest import Earliest
 from anyofthese.errors import InvalidName, InvalidShift, InvalidTimes, TooMany

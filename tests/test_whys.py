@@ -8,13 +8,9 @@ from anyofthese.rules import Rule
 from anyofthese.runs import Run
 from anyofthese.terms import Term
 from anyofthese.whys import is_why, why
-from tests.samples import BIG, LOW, NO_NAMES, ODD_VALUES, Case
+from tests.samples import BIG, LOW, NO_NAMES, ODD_VALUES, SHOP, Case
 from tests.trials import chance, lifted_often, some_book, some_run, told_why, zeros
 
-SHOP = Book(
-    ["shop", "ann", "bob", "bus"],
-    [Rule("shop", Term("ann") | Term("bob")), Rule("ann", Term("bus") + 5), Rule("bob", Term("bus") + 9)],
-)
 FLOORS = Run.of(shop=0, ann=0, bob=20, bus=2)
 LEAST = Run.of(shop=7, ann=7, bob=20, bus=2)
 WHY = [("bus", None), ("bob", None), ("ann", 1), ("shop", 0)]

@@ -104,3 +104,44 @@ def told_refusal(moments, rules, refusal):
             if other not in refusal or many * shift + refusal[other][1] < number + 1:
                 return False
     return True
+
+
+def runs_in_box(book, high):
+    """The list of all runs with times from 0 to high, as dicts."""
+    return [times for times in box(book.moments, 0, high) if are_kept(book, times)]
+
+
+def has_run_by_lifting(moments, rules):
+    return lifted_often(Book(list(moments), list(rules)), zeros(moments)) is not None
+
+
+def follows_by_lifting(book, rule):
+    """Whether the book with the contrary of the rule, made by hand, comes to no run."""
+    shifts = rule.earliest.shifts()
+    contrary = [Rule(moment, Earliest({rule.moment: 1 - shifts[moment]})) for moment in sorted(shifts)]
+    return not has_run_by_lifting(book.moments, book.rules() + contrary)
+
+
+def book_with_run(luck, moments, rules, most=3, size=3):
+    """A book by chance that has a run."""
+    while True:
+        book = some_book(luck, moments, rules, most, size)
+        if has_run_by_lifting(moments, book.rules()):
+            return book
+
+
+def great_book(luck, rules=100, most=8, size=10 ** 59):
+    """A book with eight moments, great shifts and a run, which many of its rules only just keep."""
+    moments = "abcdefgh"
+    run = some_run(luck, moments, size)
+    made = []
+    for _ in range(rules):
+        rule = some_rule(luck, moments, most, size)
+        other = luck.choice([moment for moment in moments if moment != rule.moment])
+        shifts = {
+            moment: run.gap(rule.moment, moment) + luck.randint(0, size // 10)
+            for moment in rule.earliest.moments if moment != rule.moment
+        }
+        shifts[other] = run.gap(rule.moment, other) - luck.randint(0, 3)
+        made.append(Rule(rule.moment, Earliest(shifts)))
+    return Book(list(moments), made)
