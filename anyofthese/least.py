@@ -24,7 +24,8 @@ def lifted(book, run):
     before = run.times()
     times = run.times()
     for rule in book.rules():
-        times[rule.moment] = max(times[rule.moment], rule.earliest(before))
+        earliest = rule.earliest
+        times[rule.moment] = max(times[rule.moment], earliest(before))
     return Run(times)
 
 
