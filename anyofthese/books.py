@@ -3,26 +3,34 @@
 from anyofthese.checks import check_moment, check_position, check_rule, check_times
 from anyofthese.earliest import Earliest
 from anyofthese.errors import InvalidMoments, InvalidNames, InvalidPositions, InvalidRules, TooMany
-from anyofthese.kinds import is_list, is_name, is_position, is_times
+from anyofthese.kinds import are_among, is_list, is_name, is_position, is_times
 from anyofthese.rules import Rule
 
 
 def check_names(moments):
-    """InvalidMoments unless these are a list of different NAMES, at least one."""
+    """InvalidMoments unless these are a list of different NAMES, at least one; TooMany if they are too many."""
     if not is_list(moments) or len(moments) == 0:
         raise InvalidMoments(None)
     for position, moment in enumerate(moments):
         if not is_name(moment) or moment in moments[:position]:
             raise InvalidMoments(position)
+    if len(moments) > Book.MOST_MOMENTS:
+        raise TooMany("moments", Book.MOST_MOMENTS)
+
+
+def check_each(right):
+    """InvalidRules with the place of the first rule that is not right."""
+    if not all(right):
+        raise InvalidRules(right.index(False))
 
 
 def check_rules(rules, moments):
-    """InvalidRules unless these are a list of Rules of these moments."""
+    """InvalidRules unless these are a list of Rules of these moments; TooMany if they are too many."""
     if not is_list(rules):
         raise InvalidRules(None)
-    for position, rule in enumerate(rules):
-        if not isinstance(rule, Rule) or not all([moment in moments for moment in rule.moments]):
-            raise InvalidRules(position)
+    check_each([isinstance(rule, Rule) and are_among(rule.moments, moments) for rule in rules])
+    if len(rules) > Book.MOST_RULES:
+        raise TooMany("rules", Book.MOST_RULES)
 
 
 def is_renaming(value, moments):
@@ -48,11 +56,7 @@ class Book:
 
     def __init__(self, moments, rules=()):
         check_names(moments)
-        if len(moments) > Book.MOST_MOMENTS:
-            raise TooMany("moments", Book.MOST_MOMENTS)
         check_rules(rules, moments)
-        if len(rules) > Book.MOST_RULES:
-            raise TooMany("rules", Book.MOST_RULES)
         self._moments = tuple(sorted(moments))
         self._rules = list(rules)
 

@@ -1,7 +1,10 @@
 """Checks that several classes share: each raises the error that the document lists, or does nothing."""
 
-from anyofthese.errors import InvalidCount, InvalidPosition, InvalidShift, InvalidTimes, OtherMoments, UnknownMoment
-from anyofthese.kinds import is_count, is_integer, is_moment_of, is_position, is_times
+from anyofthese.errors import (
+    InvalidCeilings, InvalidCount, InvalidPace, InvalidPosition, InvalidShift, InvalidTimes, OtherMoments,
+    UnknownMoment,
+)
+from anyofthese.kinds import is_ceilings, is_count, is_integer, is_moment_of, is_pace, is_position, is_times
 
 
 def check_shift(value):
@@ -45,3 +48,15 @@ def check_same_moments(one, other):
     """OtherMoments with both unless these are the same sorted tuples of moments."""
     if one != other:
         raise OtherMoments(one, other)
+
+
+def check_ceilings(value, moments):
+    """InvalidCeilings unless the value is a dict from some of the moments to INTEGERS."""
+    if not is_ceilings(value, moments):
+        raise InvalidCeilings(value)
+
+
+def check_pace(value):
+    """InvalidPace unless the value is a pace."""
+    if not is_pace(value):
+        raise InvalidPace(value)

@@ -1,6 +1,7 @@
-"""Tests of any value: whether it is a NAME, an INTEGER, a COUNT, a list, a position, TIMES ([2], [11])."""
+"""Tests of any value: whether it is a NAME, an INTEGER, a list, a position, TIMES, a pace and so on ([2], [11])."""
 
 MOST_LETTERS = 8
+MOST_BACK = 4
 
 
 def is_name(value):
@@ -36,6 +37,11 @@ def is_moment_of(value, moments):
     return isinstance(value, str) and value in moments
 
 
+def are_among(part, moments):
+    """Whether all names of this part are among the moments."""
+    return all([moment in moments for moment in part])
+
+
 def has_names(value):
     """Whether the value is a dict with one or more keys, all of them NAMES."""
     return isinstance(value, dict) and len(value) > 0 and all([is_name(key) for key in value])
@@ -44,3 +50,23 @@ def has_names(value):
 def is_times(value):
     """Whether the value is a dict from one or more NAMES to INTEGERS."""
     return has_names(value) and all([is_integer(time) for time in value.values()])
+
+
+def is_ceilings(value, moments):
+    """Whether the value is a dict, perhaps empty, from some of the moments to INTEGERS."""
+    if not isinstance(value, dict):
+        return False
+    return all([is_moment_of(key, moments) and is_integer(value[key]) for key in value])
+
+
+def is_round_term(value):
+    """Whether the value is a tuple (moment, shift, back) of a NAME, an INTEGER and a COUNT of at most 4."""
+    if not isinstance(value, tuple) or len(value) != 3:
+        return False
+    moment, shift, back = value
+    return is_name(moment) and is_integer(shift) and is_count(back) and back <= MOST_BACK
+
+
+def is_pace(value):
+    """Whether the value is a tuple (top, bottom) of an INTEGER and an INTEGER of at least 1."""
+    return isinstance(value, tuple) and len(value) == 2 and is_integer(value[0]) and is_count(value[1]) and value[1] > 0

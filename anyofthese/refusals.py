@@ -4,15 +4,19 @@ from anyofthese.kinds import is_integer, is_moment_of, is_position
 from anyofthese.rising import endless_numbers, rows_of, settled
 
 
-def refusal_of(moments, rules):
-    """A refusal of a book with these moments and rules, however many; None if it has a run."""
-    rows = rows_of(rules)
+def refusal_of_rows(moments, rows):
+    """A refusal of a book with these moments and rows as its rules, however many; None if it has a run."""
     times, holds = settled(rows, {moment: 0 for moment in moments})
     endless = {moment: holds[moment] for moment in sorted(holds) if moment not in times}
     if not endless:
         return None
     numbers = endless_numbers(rows, endless)
     return {moment: (endless[moment], numbers[moment]) for moment in endless}
+
+
+def refusal_of(moments, rules):
+    """A refusal of a book with these moments and rules, however many; None if it has a run."""
+    return refusal_of_rows(moments, rows_of(rules))
 
 
 def is_line(rules, moment, value):

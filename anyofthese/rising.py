@@ -97,19 +97,25 @@ def holds_in_sequence(rows, times, holds):
     return sequence
 
 
+def numbers_below(moments, gains):
+    """The greatest numbers of at most 0 such that in each (left, moment, gain) that of the left is at most that of the
+    moment and the gain. There are such ones if no ring of these gains less than 0."""
+    numbers = {moment: 0 for moment in moments}
+    moving = True
+    while moving:
+        moving = False
+        for left, moment, gain in gains:
+            if numbers[moment] + gain < numbers[left]:
+                numbers[left] = numbers[moment] + gain
+                moving = True
+    return numbers
+
+
 def endless_numbers(rows, holds):
     """A number for each of these moments, whose holds have no other alternatives and gain along each ring [51].
 
     Along a ring of at most m moments the shifts add up to 1 or more, so with m * k - 1 for the shift k to 0 or more."""
     many = len(holds)
-    numbers = {moment: 0 for moment in holds}
-    moving = True
-    while moving:
-        moving = False
-        for left in holds:
-            shifts = rows[holds[left]][1]
-            bound = min([many * shifts[moment] + numbers[moment] - 1 for moment in shifts])
-            if bound < numbers[left]:
-                numbers[left] = bound
-                moving = True
-    return numbers
+    held = [(left, rows[holds[left]][1]) for left in holds]
+    gains = [(left, moment, many * shifts[moment] - 1) for left, shifts in held for moment in shifts]
+    return numbers_below(holds, gains)

@@ -15,18 +15,18 @@ def check_pair(book, a, b):
     check_moment(b, book.moments)
 
 
-def held_behind(book, b):
+def held_behind(rows, b, moments):
     """The least times if b alone has a floor, at 0, and the list of the moments that b does not hold."""
-    times, loose = settled_in_part(rows_of(book.rules()), {b: 0}, book.moments)
-    if len(times) < len(book.moments):
+    times, loose = settled_in_part(rows, {b: 0}, moments)
+    if len(times) < len(moments):
         raise NoRun()
     return times, loose
 
 
-def low_ends(book, b):
+def low_ends(rows, b, moments):
     """The dict from all moments to the least difference, their time less that of b; None if there is none."""
-    times, loose = held_behind(book, b)
-    return {moment: None if moment in loose else times[moment] for moment in book.moments}
+    times, loose = held_behind(rows, b, moments)
+    return {moment: None if moment in loose else times[moment] for moment in moments}
 
 
 def both_ends(low, opposite):
@@ -34,15 +34,21 @@ def both_ends(low, opposite):
     return (low, None) if opposite is None else (low, -opposite)
 
 
+def span_in_rows(rows, a, b, moments):
+    """The span of a and b if these rows are the rules."""
+    return both_ends(low_ends(rows, b, moments)[a], low_ends(rows, a, moments)[b])
+
+
 def span(book, a, b):
     """The tuple of the least and the greatest difference, the time of a less that of b; None where there is no end."""
     check_pair(book, a, b)
-    return both_ends(low_ends(book, b)[a], low_ends(book, a)[b])
+    return span_in_rows(rows_of(book.rules()), a, b, book.moments)
 
 
 def spans(book):
     """The dict from the tuples of two moments, the first one ahead, to their spans."""
-    lows = {moment: low_ends(book, moment) for moment in book.moments}
+    rows = rows_of(book.rules())
+    lows = {moment: low_ends(rows, moment, book.moments) for moment in book.moments}
     return {(a, b): both_ends(lows[b][a], lows[a][b]) for a in book.moments for b in book.moments if a < b}
 
 
@@ -61,7 +67,7 @@ def run_with(book, a, b, gap):
 def loose_end(book, a, b):
     """A loose end of a and b; None if the difference has a low end."""
     check_pair(book, a, b)
-    times, loose = held_behind(book, b)
+    times, loose = held_behind(rows_of(book.rules()), b, book.moments)
     return (Run(times), tuple(loose)) if a in loose else None
 
 

@@ -38,6 +38,16 @@ NO_TIMES = [value for value in ODD_VALUES if value != {"a": 1}] + [
     {"a": 1, "other": "2"}, {"a": 1, "other": {}}, {"b": 1, "a": (1,)},
 ]
 
+# What is no pace, and what is no ceilings of whatever book.
+NO_PACES = ODD_VALUES + NO_INTEGERS + [
+    5, (1,), (1, 1, 1), [1, 1], (1, 0), (1, -1), (0, 0), (True, 1), (1, True), (1, False), (None, 1), (1, None), ("1", 1),
+    (1, "1"), ((1,), 1), (1, [1]), {1: 1}, {0: 1, 1: 1}, "11", b"11", (1, BIG * 0), (BIG, LOW),
+]
+NO_CEILINGS = [value for value in ODD_VALUES if value not in ({}, {"a": 1})] + [
+    5, "a", [("a", 1)], (("a", 1),), {"a": True}, {"a": False}, {"a": None}, {"a": "1"}, {"a": [1]}, {"a": (1,)},
+    {"A": 1}, {"": 1}, {None: 1}, {True: 1}, {0: 1}, {("a",): 1}, {b"a": 1}, {"zoe": 1}, {"a": 1, "zoe": 1},
+]
+
 
 class Case(unittest.TestCase):
     def fails(self, error, told, call, *passed, **named):

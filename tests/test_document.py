@@ -76,6 +76,27 @@ STAGE_6 = STAGE_5 + """
 ['rule shop bob', 'rule bob bus+9', 'rule ann bob']
 """
 
+STAGE_7 = STAGE_6 + """
+>>> from anyofthese.forget import completed, forget
+>>> from anyofthese.windows import window
+>>> [[str(rule) for rule in forget(book, "bob").rules()], completed(book, "bob", Run.of(shop=5, ann=5, bus=0))]
+[['rule shop ann bus+9', 'rule ann bus+5'], Run({'ann': 5, 'bob': 9, 'bus': 0, 'shop': 5})]
+>>> [window(book, Run.of(shop=0, ann=0, bob=0, bus=0), {"shop": 12}, "bus"), forget(stuck, "b").rules()]
+[(0, 7), [Rule('a', Earliest({'a': 1})), Rule('a', Earliest({'a': -1}))]]
+"""
+
+STAGE_8 = STAGE_7 + """
+>>> from anyofthese.paces import is_timetable, kind, played
+>>> from anyofthese.plans import Plan, RoundRule, at_pace
+>>> plan = Plan(["a", "b"], [RoundRule("a", [("b", 3, 1)]), RoundRule("b", [("a", 4, 0), ("b", 2, 1)])])
+>>> [kind(plan), [str(rule) for rule in at_pace(plan, (2, 1)).rules()], str(plan[1])]
+[('least', (2, 1)), ['rule a b+1', 'rule b a+4 b'], 'rule b a+4 b+2@1']
+>>> is_timetable(plan, (2, 1), Run.of(a=1, b=0))
+True
+>>> played(Plan(["a", "b"], [RoundRule("a", [("b", 3, 1)]), RoundRule("b", [("a", 1, 2)])]), Run.of(a=0, b=0), 3)
+[Run({'a': 3, 'b': 1}), Run({'a': 4, 'b': 1}), Run({'a': 4, 'b': 4})]
+"""
+
 
 class ExampleTest(unittest.TestCase):
     def rows(self, text):
@@ -106,3 +127,9 @@ class ExampleTest(unittest.TestCase):
 
     def test_stage_6(self):
         self.rows(STAGE_6)
+
+    def test_stage_7(self):
+        self.rows(STAGE_7)
+
+    def test_stage_8(self):
+        self.rows(STAGE_8)

@@ -28,6 +28,10 @@ CLASSES = {
         "__init__", "of", "moments", "times", "__getitem__", "__contains__", "__len__", "__and__", "__or__",
         "is_at_most", "__add__", "__radd__", "__sub__", "with_time", "only", "gap", "__eq__", "__repr__",
     ],
+    ("plans", "RoundRule"): ["__init__", "moment", "terms", "moments", "__eq__", "__str__", "__repr__"],
+    ("plans", "Plan"): [
+        "__init__", "moments", "rules", "__getitem__", "__len__", "__contains__", "__eq__", "__repr__",
+    ],
 }
 PARAMETERS = {
     ("terms", "Term"): "moment, shift=0",
@@ -98,6 +102,22 @@ PARAMETERS = {
     ("spans", "run_with"): "book, a, b, gap",
     ("spans", "loose_end"): "book, a, b",
     ("spans", "is_loose_end"): "book, a, b, value",
+    ("forget", "holds"): "book, moment",
+    ("forget", "forget"): "book, moment",
+    ("forget", "forget_all"): "book, *moments",
+    ("forget", "completed"): "book, moment, run",
+    ("windows", "fits"): "book, floors, ceilings",
+    ("windows", "window"): "book, floors, ceilings, moment",
+    ("windows", "run_at"): "book, floors, ceilings, moment, time",
+    ("windows", "anchored"): "book, zero, floors, ceilings",
+    ("plans", "RoundRule"): "moment, terms",
+    ("plans", "Plan"): "moments, rules=()",
+    ("plans", "Plan.rules"): "self",
+    ("plans", "at_pace"): "plan, pace",
+    ("paces", "timetable"): "plan, pace",
+    ("paces", "is_timetable"): "plan, pace, run",
+    ("paces", "kind"): "plan",
+    ("paces", "played"): "plan, start, rounds",
 }
 PROPERTIES = {
     ("terms", "Term"): ["moment", "shift"],
@@ -106,6 +126,8 @@ PROPERTIES = {
     ("books", "Book"): ["moments"],
     ("drafts", "Draft"): ["book"],
     ("runs", "Run"): ["moments"],
+    ("plans", "RoundRule"): ["moment", "terms", "moments"],
+    ("plans", "Plan"): ["moments"],
 }
 
 

@@ -2,9 +2,11 @@
 
 import itertools
 import random
+from fractions import Fraction
 
 from anyofthese.books import Book
 from anyofthese.earliest import Earliest
+from anyofthese.plans import Plan, RoundRule
 from anyofthese.rules import Rule
 from anyofthese.runs import Run
 
@@ -145,3 +147,69 @@ def great_book(luck, rules=100, most=8, size=10 ** 59):
         shifts[other] = run.gap(rule.moment, other) - luck.randint(0, 3)
         made.append(Rule(rule.moment, Earliest(shifts)))
     return Book(list(moments), made)
+
+
+def some_round_rule(luck, moments, most=3, size=3, backs=(0, 0, 1, 1, 2, 3, 4)):
+    """A round rule with up to most round terms, shifts of up to this size and backs by chance out of these."""
+    shifts = {}
+    for _ in range(luck.randint(1, most)):
+        shifts[luck.choice(sorted(moments)), luck.choice(backs)] = luck.randint(-size, size)
+    terms = [(moment, shift, back) for (moment, back), shift in shifts.items()]
+    return RoundRule(luck.choice(sorted(moments)), terms)
+
+
+def some_plan(luck, moments, rules, most=3, size=3, backs=(0, 0, 1, 1, 2, 3, 4)):
+    return Plan(list(moments), [some_round_rule(luck, moments, most, size, backs) for _ in range(rules)])
+
+
+def rings(moments, steps):
+    """All rings of the steps (left, moment, shift, back), each without a moment twice, as lists of (shift, back)."""
+    found = []
+
+    def walk(start, at, seen, path):
+        for left, moment, shift, back in steps:
+            if left == at and moment == start:
+                found.append(path + [(shift, back)])
+            elif left == at and moment > start and moment not in seen:
+                walk(start, moment, seen + [moment], path + [(shift, back)])
+
+    for start in moments:
+        walk(start, start, [start], [])
+    return found
+
+
+def bounds_of_choice(moments, steps):
+    """The least pace if each round rule has the term of its step alone, as (rank, fraction): a rank of -1 for a
+    timetable at every pace, of 1 for none at any."""
+    least = (-1, 0)
+    for ring in rings(moments, steps):
+        shift = sum(step[0] for step in ring)
+        back = sum(step[1] for step in ring)
+        if back:
+            least = max(least, (0, Fraction(shift, back)))
+        elif shift > 0:
+            return (1, 0)
+    return least
+
+
+def kind_by_choices(plan):
+    """The kind of a small plan, by all choices of a round term for each round rule and all rings of each choice."""
+    least = (1, 0)
+    for choice in itertools.product(*[rule.terms for rule in plan.rules()]):
+        steps = [(rule.moment, *term) for rule, term in zip(plan.rules(), choice)]
+        least = min(least, bounds_of_choice(plan.moments, steps))
+    if least[0]:
+        return ("any",) if least[0] < 0 else ("none",)
+    return "least", (least[1].numerator, least[1].denominator)
+
+
+def book_at(plan, pace):
+    """The book of the plan at the pace, made by hand."""
+    top, bottom = pace
+    rules = []
+    for rule in plan.rules():
+        shifts = {}
+        for moment, shift, back in rule.terms:
+            shifts.setdefault(moment, []).append(bottom * shift - top * back)
+        rules.append(Rule(rule.moment, Earliest({moment: min(found) for moment, found in shifts.items()})))
+    return Book(list(plan.moments), rules)
