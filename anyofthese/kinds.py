@@ -67,6 +67,11 @@ def is_round_term(value):
     return is_name(moment) and is_integer(shift) and is_count(back) and back <= MOST_BACK
 
 
+def are_integers(value, many):
+    """Whether the value is a tuple of so many INTEGERS."""
+    return isinstance(value, tuple) and len(value) == many and all([is_integer(part) for part in value])
+
+
 def is_pace(value):
     """Whether the value is a tuple (top, bottom) of an INTEGER and an INTEGER of at least 1."""
-    return isinstance(value, tuple) and len(value) == 2 and is_integer(value[0]) and is_count(value[1]) and value[1] > 0
+    return are_integers(value, 2) and value[1] > 0

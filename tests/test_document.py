@@ -86,15 +86,23 @@ STAGE_7 = STAGE_6 + """
 """
 
 STAGE_8 = STAGE_7 + """
+>>> from anyofthese.bars import is_bar
 >>> from anyofthese.paces import is_timetable, kind, played
 >>> from anyofthese.plans import Plan, RoundRule, at_pace
 >>> plan = Plan(["a", "b"], [RoundRule("a", [("b", 3, 1)]), RoundRule("b", [("a", 4, 0), ("b", 2, 1)])])
 >>> [kind(plan), [str(rule) for rule in at_pace(plan, (2, 1)).rules()], str(plan[1])]
 [('least', (2, 1)), ['rule a b+1', 'rule b a+4 b'], 'rule b a+4 b+2@1']
->>> is_timetable(plan, (2, 1), Run.of(a=1, b=0))
-True
+>>> [is_timetable(plan, (2, 1), Run.of(a=1, b=0)), is_bar(plan, (2, 1), {"a": (0, 0, 0), "b": (1, 0, 0)})]
+[True, True]
 >>> played(Plan(["a", "b"], [RoundRule("a", [("b", 3, 1)]), RoundRule("b", [("a", 1, 2)])]), Run.of(a=0, b=0), 3)
 [Run({'a': 3, 'b': 1}), Run({'a': 4, 'b': 1}), Run({'a': 4, 'b': 4})]
+"""
+
+STAGE_9 = STAGE_8 + """
+>>> from anyofthese.desk import Desk
+>>> desk = Desk(book)
+>>> desk.do_all("follows shop bus+5", "rule bus shop-5", "span bus shop", "forget bob", "book", "undo", "needless")
+['yes', 'done', '-5 -5', 'done', 'rule shop ann bus+9 ; rule ann bus+5 ; rule bus shop-5', 'done', '-']
 """
 
 
@@ -133,3 +141,6 @@ class ExampleTest(unittest.TestCase):
 
     def test_stage_8(self):
         self.rows(STAGE_8)
+
+    def test_stage_9(self):
+        self.rows(STAGE_9)

@@ -32,6 +32,9 @@ CLASSES = {
     ("plans", "Plan"): [
         "__init__", "moments", "rules", "__getitem__", "__len__", "__contains__", "__eq__", "__repr__",
     ],
+    ("desk", "Desk"): [
+        "__init__", "do", "do_all", "attempt", "tried_by", "trial", "book", "take", "undoable",
+    ],
 }
 PARAMETERS = {
     ("terms", "Term"): "moment, shift=0",
@@ -118,6 +121,28 @@ PARAMETERS = {
     ("paces", "is_timetable"): "plan, pace, run",
     ("paces", "kind"): "plan",
     ("paces", "played"): "plan, start, rounds",
+    ("bars", "bar"): "plan, pace",
+    ("bars", "is_bar"): "plan, pace, value",
+    ("bars", "ban"): "plan",
+    ("bars", "is_ban"): "plan, value",
+    ("bars", "licence"): "plan",
+    ("bars", "is_licence"): "plan, value",
+    ("texts", "book_text"): "book",
+    ("texts", "plan_text"): "plan",
+    ("texts", "read_book"): "text",
+    ("texts", "read_plan"): "text",
+    ("texts", "read_earliest"): "text",
+    ("judge", "is_claim"): "value",
+    ("judge", "is_true"): "claim",
+    ("judge", "certificate"): "claim",
+    ("judge", "is_certificate"): "claim, value",
+    ("desk", "Desk"): "book",
+    ("desk", "Desk.do"): "self, command",
+    ("desk", "Desk.do_all"): "self, *commands",
+    ("desk", "Desk.attempt"): "self, *commands",
+    ("desk", "Desk.tried_by"): "self, deed",
+    ("desk", "Desk.trial"): "self",
+    ("desk", "Desk.take"): "self, other",
 }
 PROPERTIES = {
     ("terms", "Term"): ["moment", "shift"],
@@ -128,6 +153,7 @@ PROPERTIES = {
     ("runs", "Run"): ["moments"],
     ("plans", "RoundRule"): ["moment", "terms", "moments"],
     ("plans", "Plan"): ["moments"],
+    ("desk", "Desk"): ["book", "undoable"],
 }
 
 

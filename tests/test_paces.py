@@ -7,6 +7,7 @@ from anyofthese.paces import is_timetable, kind, played, timetable
 from anyofthese.plans import Plan, RoundRule
 from anyofthese.refusals import has_run
 from anyofthese.runs import Run
+from tests.papers import near, times_by_number
 from tests.samples import BIG, EIGHT, LOW, NO_INTEGERS, NO_PACES, Case
 from tests.trials import (
     are_kept, book_at, chance, kind_by_choices, rings, some_plan, some_round_rule, some_run, zeros,
@@ -28,21 +29,6 @@ def keeps_round(plan, run, pace, i):
     return all(
         time(rule.moment, i) >= min(time(moment, i - back) + shift for moment, shift, back in rule.terms)
         for rule in plan.rules())
-
-
-def near(pace, parts, by):
-    """The pace that is greater by this number of so many parts."""
-    top, bottom = pace
-    return top * parts + bottom * by, bottom * parts
-
-
-def times_by_number(plan, number):
-    """The plan with all shifts times the number."""
-    rules = [
-        RoundRule(rule.moment, [(moment, shift * number, back) for moment, shift, back in rule.terms])
-        for rule in plan.rules()
-    ]
-    return Plan(plan.moments, rules)
 
 
 class TimetableTest(Case):
