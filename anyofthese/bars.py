@@ -1,7 +1,7 @@
 """What shows that no lesser pace has a timetable, that no pace has one, or that each one has ([84])."""
 
 from anyofthese.checks import check_pace
-from anyofthese.kinds import are_integers, is_moment_of, is_position
+from anyofthese.kinds import are_integers, is_position
 from anyofthese.paces import far_pace, refusal_at, slow_pace, steps_of, timetable
 from anyofthese.rings import gain_of, levels
 from anyofthese.rising import numbers_below
@@ -37,10 +37,8 @@ def is_line(plan, moment, value):
 
 
 def are_lines(plan, value):
-    """Whether the value is a dict of such tuples, of round rules all of whose moments are keys."""
-    if not isinstance(value, dict) or len(value) == 0:
-        return False
-    if not all([is_moment_of(key, plan.moments) and is_line(plan, key, value[key]) for key in value]):
+    """Whether the value is a dict from moments to such tuples, of round rules all of whose moments are keys."""
+    if not isinstance(value, dict) or len(value) == 0 or not all([is_line(plan, key, value[key]) for key in value]):
         return False
     return all([step[1] in value for step in steps_of(plan, value)])
 

@@ -1,7 +1,7 @@
 """What is left of a book if moments are forgotten, and how their times are found again ([71])."""
 
 from anyofthese.books import Book, first_broken
-from anyofthese.checks import check_moment, check_same_moments
+from anyofthese.checks import check_same_moments
 from anyofthese.errors import LastOne, NotKept, TooMany, UnknownMoment
 from anyofthese.kinds import is_moment_of
 from anyofthese.rules import Rule
@@ -16,7 +16,6 @@ def held_by(rule):
 
 def holds(book, moment):
     """The list of the holds of the moment; None if a rule of it is never kept."""
-    check_moment(moment, book.moments)
     rules = [book[position] for position in book.rules_of(moment)]
     if any([rule.is_never for rule in rules]):
         return None

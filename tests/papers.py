@@ -13,39 +13,38 @@ def are_told(plan, paper, whole):
     return all(line.__class__ is tuple for line in paper.values()) and all(part.__class__ is int for part in parts)
 
 
+def steps_of(plan, paper):
+    """The list of (a, b, k, back) of all round terms of the rules of the paper; None if a line tells no such rule."""
+    found = []
+    for a, (position, _, _) in paper.items():
+        rule = plan.rules()[position]
+        if rule.moment != a or not all(b in paper for b, _, _ in rule.terms):
+            return None
+        found += [(a, *term) for term in rule.terms]
+    return found
+
+
 def told_bar(plan, pace, paper):
     """Whether the paper is a bar for the pace."""
-    if not are_told(plan, paper, False):
+    if not are_told(plan, paper, False) or steps_of(plan, paper) is None:
         return False
     top, bottom = pace
-    for a, (position, number, rank) in paper.items():
-        rule = plan.rules()[position]
-        if rule.moment != a:
+    for a, b, k, back in steps_of(plan, paper):
+        reach = bottom * k - top * back + paper[b][1]
+        if reach < paper[a][1] or reach == paper[a][1] and back == 0 and paper[b][2] >= paper[a][2]:
             return False
-        for b, k, back in rule.terms:
-            if b not in paper:
-                return False
-            reach = bottom * k - top * back + paper[b][1]
-            if reach < number or reach == number and back == 0 and paper[b][2] >= rank:
-                return False
     return True
 
 
 def told_ban(plan, paper):
     """Whether the paper is a ban."""
-    if not are_told(plan, paper, False):
+    if not are_told(plan, paper, False) or steps_of(plan, paper) is None:
         return False
-    for a, (position, number, level) in paper.items():
-        rule = plan.rules()[position]
-        if rule.moment != a:
+    for a, b, k, back in steps_of(plan, paper):
+        lower = paper[b][2] < paper[a][2]
+        same = paper[b][2] == paper[a][2] and back == 0 and len(paper) * k + paper[b][1] >= paper[a][1] + 1
+        if not lower and not same:
             return False
-        for b, k, back in rule.terms:
-            if b not in paper:
-                return False
-            lower = paper[b][2] < level
-            same = paper[b][2] == level and back == 0 and len(paper) * k + paper[b][1] >= number + 1
-            if not lower and not same:
-                return False
     return True
 
 
